@@ -1,0 +1,50 @@
+// Package keystone: a few nodes that keep a volume of blocks, and agree who of them may change it: see DOC.md.
+package keystone
+
+import (
+	"keystone/api"
+	"keystone/record"
+	"keystone/wire"
+)
+
+// Encode makes the bytes of a message (P3).
+func Encode(m api.Msg) ([]byte, api.Errno) { return wire.Encode(m) }
+
+// Decode reads a message (P4).
+func Decode(b []byte) (api.Msg, api.Errno) { return wire.Decode(b) }
+
+// Follows tells whether a record may follow another one (P5).
+func Follows(old api.Record, next api.Record) bool { return record.Follows(old, next) }
+
+// Node is a node.
+type Node struct{}
+
+// New makes a node of what is on a disk (P6).
+func New(id int, nodes int, blocks int, d *api.Disk) (*Node, api.Errno) { return nil, api.OK }
+
+// Receive takes a message in (P8 to P10).
+func (n *Node) Receive(b []byte) []api.Packet { return nil }
+
+// Promote asks for a record with this node as primary (P11).
+func (n *Node) Promote(set int) ([]api.Packet, api.Errno) { return nil, api.OK }
+
+// Admit asks for a node more in the set (P12).
+func (n *Node) Admit(node int) ([]api.Packet, api.Errno) { return nil, api.OK }
+
+// Write begins to write a block (P13).
+func (n *Node) Write(block int, value int) (int, []api.Packet, api.Errno) { return 0, nil, api.OK }
+
+// Read begins to read a block (P13).
+func (n *Node) Read(block int) (int, []api.Packet, api.Errno) { return 0, nil, api.OK }
+
+// Retry sends again what was not answered (P14).
+func (n *Node) Retry() []api.Packet { return nil }
+
+// Done tells what came to an end (P13).
+func (n *Node) Done() []api.Result { return nil }
+
+// Records tells all records that are known (P7).
+func (n *Node) Records() []api.Record { return nil }
+
+// Acting tells whether the node acts as primary (P7).
+func (n *Node) Acting() bool { return false }
