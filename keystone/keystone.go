@@ -2,7 +2,10 @@
 package keystone
 
 import (
+	"sync"
+
 	"keystone/api"
+	"keystone/node"
 	"keystone/record"
 	"keystone/wire"
 )
@@ -16,14 +19,27 @@ func Decode(b []byte) (api.Msg, api.Errno) { return wire.Decode(b) }
 // Follows tells whether a record may follow another one (P5).
 func Follows(old api.Record, next api.Record) bool { return record.Follows(old, next) }
 
-// Node is a node.
-type Node struct{}
+// Node is a node. Its calls may come from several goroutines at once: each takes the lock, so that it is done whole.
+type Node struct {
+	lock sync.Mutex
+	node *node.Node
+}
 
 // New makes a node of what is on a disk (P6).
-func New(id int, nodes int, blocks int, d *api.Disk) (*Node, api.Errno) { return nil, api.OK }
+func New(id int, nodes int, blocks int, d *api.Disk) (*Node, api.Errno) {
+	n, e := node.New(id, nodes, blocks, d)
+	if e != api.OK {
+		return nil, e
+	}
+	return &Node{node: n}, api.OK
+}
 
 // Receive takes a message in (P8 to P10).
-func (n *Node) Receive(b []byte) []api.Packet { return nil }
+func (n *Node) Receive(b []byte) []api.Packet {
+	n.lock.Lock()
+	defer n.lock.Unlock()
+	return n.node.Receive(b)
+}
 
 // Promote asks for a record with this node as primary (P11).
 func (n *Node) Promote(set int) ([]api.Packet, api.Errno) { return nil, api.OK }
@@ -44,7 +60,15 @@ func (n *Node) Retry() []api.Packet { return nil }
 func (n *Node) Done() []api.Result { return nil }
 
 // Records tells all records that are known (P7).
-func (n *Node) Records() []api.Record { return nil }
+func (n *Node) Records() []api.Record {
+	n.lock.Lock()
+	defer n.lock.Unlock()
+	return n.node.Records()
+}
 
 // Acting tells whether the node acts as primary (P7).
-func (n *Node) Acting() bool { return false }
+func (n *Node) Acting() bool {
+	n.lock.Lock()
+	defer n.lock.Unlock()
+	return n.node.Acting()
+}

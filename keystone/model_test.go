@@ -1,0 +1,155 @@
+package keystone_test
+
+import (
+	"slices"
+
+	"keystone/api"
+)
+
+// modelVote is what was voted for an epoch.
+type modelVote struct{ epoch, promised, accepted, primary, set int }
+
+// model is a node that begins nothing, told by the document's section 'A node' step by step, apart from the program: plain lists, nothing left out that nobody asks for.
+type model struct {
+	id, nodes, blocks int
+	records           []api.Record
+	votes             []modelVote
+	values            []int
+	seen, last        int
+	acts              bool
+}
+
+func newModel(id, nodes, blocks int) model {
+	all := 0
+	for range nodes {
+		all = 2*all + 1
+	}
+	return model{id: id, nodes: nodes, blocks: blocks, records: []api.Record{{Set: all}}, values: make([]int, blocks)}
+}
+
+// clone is the same model apart from this one.
+func (m model) clone() model {
+	m.records, m.votes, m.values = slices.Clone(m.records), slices.Clone(m.votes), slices.Clone(m.values)
+	return m
+}
+
+// restarted is the model behind New: what is not kept is gone.
+func (m model) restarted() model {
+	m = m.clone()
+	m.acts = false
+	return m
+}
+
+func (m *model) epoch() int { return m.records[len(m.records)-1].Epoch }
+
+// vote finds what was voted for an epoch; it is there from now on.
+func (m *model) vote(epoch int) *modelVote {
+	for i := range m.votes {
+		if m.votes[i].epoch == epoch {
+			return &m.votes[i]
+		}
+	}
+	m.votes = append(m.votes, modelVote{epoch: epoch})
+	return &m.votes[len(m.votes)-1]
+}
+
+// decision is Decided, of an epoch below the model's.
+func (m *model) decision(epoch int) api.Msg {
+	for _, r := range m.records {
+		if r.Epoch == epoch+1 {
+			return api.Msg{Kind: 6, From: m.id, Epoch: epoch, Primary: r.Primary, Set: r.Set}
+		}
+	}
+	panic("no such record")
+}
+
+// receive takes a message in and tells what is answered; kind 0: nothing is.
+func (m *model) receive(x api.Msg) api.Msg {
+	if x.From == m.id || x.From >= m.nodes {
+		return api.Msg{}
+	}
+	switch x.Kind {
+	case 1:
+		return m.prepare(x)
+	case 3:
+		return m.accept(x)
+	case 6:
+		m.decided(x)
+	case 7:
+		if x.Block < m.blocks {
+			return m.change(x, 8, func() { m.values[x.Block] = x.Value })
+		}
+	case 9:
+		if len(x.Values) == m.blocks {
+			return m.change(x, 10, func() { m.values = slices.Clone(x.Values) })
+		}
+	}
+	return api.Msg{}
+}
+
+// refuse answers a Prepare or an Accept that may not be; kind 0: it may.
+func (m *model) refuse(x api.Msg) api.Msg {
+	if x.Epoch < m.epoch() {
+		return m.decision(x.Epoch)
+	}
+	if promised := m.vote(x.Epoch).promised; x.Ballot < promised {
+		return api.Msg{Kind: 5, From: m.id, Epoch: x.Epoch, Ballot: x.Ballot, Was: promised}
+	}
+	return api.Msg{}
+}
+
+func (m *model) prepare(x api.Msg) api.Msg {
+	if no := m.refuse(x); no.Kind != 0 {
+		return no
+	}
+	v := m.vote(x.Epoch)
+	v.promised = x.Ballot
+	return api.Msg{Kind: 2, From: m.id, Epoch: x.Epoch, Ballot: x.Ballot, Was: v.accepted, Primary: v.primary, Set: v.set}
+}
+
+func (m *model) accept(x api.Msg) api.Msg {
+	if no := m.refuse(x); no.Kind != 0 {
+		return no
+	}
+	*m.vote(x.Epoch) = modelVote{x.Epoch, x.Ballot, x.Ballot, x.Primary, x.Set}
+	return api.Msg{Kind: 4, From: m.id, Epoch: x.Epoch, Ballot: x.Ballot}
+}
+
+func (m *model) decided(x api.Msg) {
+	last := m.records[len(m.records)-1]
+	next := api.Record{Epoch: x.Epoch + 1, Primary: x.Primary, Set: x.Set}
+	if x.Epoch != last.Epoch || x.Epoch >= 1000000000000 || !shouldFollow(last, next) {
+		return
+	}
+	m.records = append(m.records, next)
+	m.acts = false
+	if next.Primary-1 == m.id && m.seen < next.Epoch {
+		m.seen, m.last, m.acts = next.Epoch, 0, true
+	}
+}
+
+// change is a Write or a Copy; how lays its values into the blocks.
+func (m *model) change(x api.Msg, answer int, how func()) api.Msg {
+	done := api.Msg{Kind: answer, From: m.id, Epoch: x.Epoch, Seq: x.Seq}
+	if x.Epoch == m.seen && m.acts {
+		return api.Msg{}
+	}
+	if x.Epoch < m.seen {
+		if x.Epoch < m.epoch() {
+			return m.decision(x.Epoch)
+		}
+		return api.Msg{}
+	}
+	if x.Epoch == m.seen && x.Seq < m.last {
+		return api.Msg{}
+	}
+	if x.Epoch == m.seen && x.Seq == m.last {
+		return done
+	}
+	if x.Epoch != m.seen {
+		m.acts = false
+	}
+	m.seen, m.last = x.Epoch, x.Seq
+	how()
+	return done
+}
