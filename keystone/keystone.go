@@ -42,22 +42,46 @@ func (n *Node) Receive(b []byte) []api.Packet {
 }
 
 // Promote asks for a record with this node as primary (P11).
-func (n *Node) Promote(set int) ([]api.Packet, api.Errno) { return nil, api.OK }
+func (n *Node) Promote(set int) ([]api.Packet, api.Errno) {
+	n.lock.Lock()
+	defer n.lock.Unlock()
+	return n.node.Promote(set)
+}
 
 // Admit asks for a node more in the set (P12).
-func (n *Node) Admit(node int) ([]api.Packet, api.Errno) { return nil, api.OK }
+func (n *Node) Admit(node int) ([]api.Packet, api.Errno) {
+	n.lock.Lock()
+	defer n.lock.Unlock()
+	return n.node.Admit(node)
+}
 
 // Write begins to write a block (P13).
-func (n *Node) Write(block int, value int) (int, []api.Packet, api.Errno) { return 0, nil, api.OK }
+func (n *Node) Write(block int, value int) (int, []api.Packet, api.Errno) {
+	n.lock.Lock()
+	defer n.lock.Unlock()
+	return n.node.Write(block, value)
+}
 
 // Read begins to read a block (P13).
-func (n *Node) Read(block int) (int, []api.Packet, api.Errno) { return 0, nil, api.OK }
+func (n *Node) Read(block int) (int, []api.Packet, api.Errno) {
+	n.lock.Lock()
+	defer n.lock.Unlock()
+	return n.node.Read(block)
+}
 
 // Retry sends again what was not answered (P14).
-func (n *Node) Retry() []api.Packet { return nil }
+func (n *Node) Retry() []api.Packet {
+	n.lock.Lock()
+	defer n.lock.Unlock()
+	return n.node.Retry()
+}
 
 // Done tells what came to an end (P13).
-func (n *Node) Done() []api.Result { return nil }
+func (n *Node) Done() []api.Result {
+	n.lock.Lock()
+	defer n.lock.Unlock()
+	return n.node.Done()
+}
 
 // Records tells all records that are known (P7).
 func (n *Node) Records() []api.Record {

@@ -1,6 +1,7 @@
 package keystone_test
 
 import (
+	"fmt"
 	"math/rand"
 	"slices"
 	"testing"
@@ -15,115 +16,136 @@ func anyModel(r *rand.Rand) model {
 	return newModel(r.Intn(nodes), nodes, 1+r.Intn(4))
 }
 
-// anyMessage makes a message near to what a model has, so that each case is met often.
-func anyMessage(r *rand.Rand, m *model) api.Msg {
-	near := func(n int) int { return max(0, n+r.Intn(4)-1) }
-	// most blocks change in the node's epoch or just ahead of it: a node that saw far ahead would never act
-	seen := max(0, m.epoch()+r.Intn(4)-2)
-	x := api.Msg{Kind: 1 + r.Intn(10), From: r.Intn(5)}
-	switch x.Kind {
-	case 1, 4:
-		x.Epoch, x.Ballot = near(m.epoch()), r.Intn(12)
-	case 2, 3:
-		x.Epoch, x.Ballot, x.Primary, x.Set = near(m.epoch()), r.Intn(12), r.Intn(6), r.Intn(32)
-	case 5:
-		x.Epoch, x.Ballot, x.Was = near(m.epoch()), r.Intn(12), r.Intn(12)
-	case 6:
-		last := m.records[len(m.records)-1]
-		x.Epoch, x.Primary, x.Set = near(m.epoch()), r.Intn(6), last.Set|1<<r.Intn(5)
-		if r.Intn(2) == 0 {
-			x.Epoch, x.Primary, x.Set = last.Epoch, m.id+1, last.Set|1<<m.id
-		}
-	case 7:
-		x.Epoch, x.Seq, x.Block, x.Value = seen, near(m.last), r.Intn(4), r.Intn(1000)-500
-	case 8, 10:
-		x.Epoch, x.Seq = seen, near(m.last)
-	case 9:
-		x.Epoch, x.Seq, x.Values = seen, near(m.last), make([]int, r.Intn(5))
-	}
-	return x
-}
-
-// probes are messages whose answers tell apart what a model has from whatever is near to it.
-func probes(m *model) []api.Msg {
+// probes are calls whose outcomes tell apart what a model keeps from whatever is near to it.
+func probes(m *model) [][]call {
 	other := (m.id + 1) % m.nodes
-	var out []api.Msg
+	var out [][]call
 	for epoch := max(0, m.epoch()-1); epoch <= m.epoch()+3; epoch++ {
 		// the first tells what was promised, if anything was, the second what was accepted
-		out = append(out, prepare(other, epoch, 0), prepare(other, epoch, m.vote(epoch).promised))
+		out = append(out, []call{receive(prepare(other, epoch, 0))}, []call{receive(prepare(other, epoch, m.vote(epoch).promised))})
 	}
 	for _, epoch := range []int{max(0, m.seen-1), m.seen, m.seen + 1} {
 		for _, seq := range []int{max(0, m.last-1), m.last, m.last + 1} {
-			out = append(out, write(other, epoch, seq, 0, 1))
+			out = append(out, []call{receive(write(other, epoch, seq, 0, 1))})
 		}
 	}
-	return append(out, decided(other, m.epoch(), m.id+1, m.records[m.epoch()].Set|1<<m.id))
+	for block := range m.blocks {
+		// as primary it reads what it has; alone, so that nobody else is asked
+		first := receive(decided(other, m.epoch(), m.id+1, 1<<m.id))
+		out = append(out, []call{first, read(block), done()})
+	}
+	return append(out, []call{promote(m.lastRecord().Set), retry()}, []call{done(), retry()})
 }
 
 // keeps tells whether a node that begins anew on a disk is as a model. It looks at copies: each probe may change what is kept.
 func keeps(t *testing.T, h *api.Hand, m model) bool {
 	t.Helper()
-	for _, p := range probes(&m) {
+	for _, calls := range probes(&m) {
 		d, _ := h.Crash(0)
 		n, x := nodeOn(t, m.id, m.nodes, m.blocks, d), m.restarted()
 		if !slices.Equal(n.Records(), x.records) || n.Acting() {
 			return false
 		}
-		want := x.receive(p)
-		if !isAnswer(t, n.Receive(bytesOf(t, p)), p.From, want) || n.Acting() != x.acts {
-			return false
+		for _, c := range calls {
+			want := c.ofModel(t, &x)
+			if !c.of(t, n).same(want) || n.Acting() != x.acts {
+				return false
+			}
 		}
 	}
 	return true
 }
 
-// TestRandomMessages: a node does as the model does, behind restarts too (P6, P7, P8).
-func TestRandomMessages(t *testing.T) {
-	for seed := range int64(60) {
+// TestRandomCalls: a node does as the model does, behind restarts too (P6, P7, P8, P11 to P14).
+func TestRandomCalls(t *testing.T) {
+	met := map[string]int{}
+	for seed := range int64(400) {
 		r := rand.New(rand.NewSource(seed))
 		x := anyModel(r)
 		d, h := api.NewDisk()
 		n := nodeOn(t, x.id, x.nodes, x.blocks, d)
 		for step := range 600 {
-			if r.Intn(40) == 0 {
+			if r.Intn(200) == 0 {
 				n, x = nodeOn(t, x.id, x.nodes, x.blocks, d), x.restarted()
 			}
-			m := anyMessage(r, &x)
-			want := x.receive(m)
-			if got := n.Receive(bytesOf(t, m)); !isAnswer(t, got, m.From, want) {
-				t.Fatalf("P8: seed %d, step %d, node %d of %d: %+v is answered %+v, want %+v", seed, step, x.id, x.nodes, m, told(got), want)
+			c := anyCall(r, &x)
+			if seed%10 == 0 && step == 300 {
+				// from now on ballots come to their end
+				c = receive(prepare((x.id+1)%x.nodes, x.epoch(), most-12))
+			}
+			want := c.ofModel(t, &x)
+			if got := c.of(t, n); !got.same(want) {
+				t.Fatalf("P8, P11 to P14: seed %d, step %d, node %d of %d: %+v:\n%v, want\n%v", seed, step, x.id, x.nodes, c, got, want)
 			}
 			wantNode(t, n, x.acts, x.records...)
+			tally(met, c, want)
 		}
 		if !keeps(t, h, x) {
 			t.Errorf("P6: seed %d: what is on the disk is not what node %d of %d kept", seed, x.id, x.nodes)
 		}
 	}
+	wantMet(t, met)
 }
 
-// wantDown: a node whose disk is stopped tells nothing any more but its records (P9).
+// tally counts what is met: which call told which error, which message was answered by which kind.
+func tally(met map[string]int, c call, o outcome) {
+	met[fmt.Sprint(c.name, " error ", o.e)]++
+	if len(o.packets) > 0 {
+		met[fmt.Sprint(c.name, " ", c.m.Kind, " sends ", o.packets[0].Data[0])]++
+	}
+	if len(o.results) > 0 {
+		met["results"]++
+	}
+}
+
+// wantMet: a random test that does not come to what it is about is none.
+func wantMet(t *testing.T, met map[string]int) {
+	t.Helper()
+	for _, s := range []string{
+		"Promote error 0", "Promote error 1", "Promote error 4",
+		"Admit error 0", "Admit error 1", "Admit error 4", "Admit error 5",
+		"Write error 0", "Write error 1", "Write error 4", "Write error 5",
+		"Read error 0", "Read error 1", "Read error 4", "Read error 5",
+		"Receive 2 sends 3", "Receive 4 sends 6", "Receive 10 sends 1",
+		"Retry 0 sends 1", "Retry 0 sends 9", "results",
+	} {
+		if met[s] < 20 {
+			t.Errorf("%s: met %d times", s, met[s])
+		}
+	}
+}
+
+// wantDown: a node whose disk is stopped tells nothing any more but its records, and what came to an end before (P9).
 func wantDown(t *testing.T, n *keystone.Node, x model, r *rand.Rand) {
 	t.Helper()
 	for range 20 {
-		if got := n.Receive(bytesOf(t, anyMessage(r, &x))); len(got) > 0 {
-			t.Fatalf("P9: a node that is down tells %+v", told(got))
+		c := anyCall(r, &x)
+		want := outcome{}
+		switch c.name {
+		case "Promote", "Admit", "Write", "Read":
+			want.e = api.ErrDown
+		case "Done":
+			want = c.ofModel(t, &x)
+		}
+		if got := c.of(t, n); !got.same(want) {
+			t.Fatalf("P9: of a node that is down, %+v: %v, want %v", c, got, want)
 		}
 		wantNode(t, n, false, x.records...)
 	}
 }
 
-// run hands a message in, on a disk that may stop: the model behind it, if the call was done; else the node is down.
-func run(t *testing.T, n *keystone.Node, d *api.Disk, x model, m api.Msg) (next model, done bool) {
+// run makes a call, on a disk that may stop: the model behind it, if it was done; else the node is down.
+func run(t *testing.T, n *keystone.Node, d *api.Disk, x model, c call) (next model, done bool) {
 	t.Helper()
 	next = x.clone()
-	want := next.receive(m)
-	got := n.Receive(bytesOf(t, m))
-	if isAnswer(t, got, m.From, want) && slices.Equal(n.Records(), next.records) {
+	want := c.ofModel(t, &next)
+	got := c.of(t, n)
+	if got.same(want) && slices.Equal(n.Records(), next.records) {
 		wantNode(t, n, next.acts, next.records...)
 		return next, true
 	}
-	if !d.Stopped() || len(got) > 0 {
-		t.Fatalf("P8: %+v is answered %+v, want %+v", m, told(got), want)
+	if !d.Stopped() || !got.same(outcome{}) && !got.same(outcome{e: api.ErrDown}) {
+		t.Fatalf("P8, P11 to P14: %+v:\n%v, want\n%v", c, got, want)
 	}
 	return next, false
 }
@@ -140,9 +162,9 @@ func left(t *testing.T, h *api.Hand, done, cut model) model {
 	return cut.restarted()
 }
 
-// TestStopsAndCrashes: disks stop at any step; what is left keeps all that was told, and the call that was cut off whole or not at all (P6, P8, and of P9 and P10 what is said of Receive).
+// TestStopsAndCrashes: disks stop at any step; what is left keeps all that was told, and the call that was cut off whole or not at all (P6, P8, P9, P10).
 func TestStopsAndCrashes(t *testing.T) {
-	for seed := range int64(30) {
+	for seed := range int64(60) {
 		r := rand.New(rand.NewSource(seed))
 		x := anyModel(r)
 		d, h := api.NewDisk()
@@ -152,7 +174,7 @@ func TestStopsAndCrashes(t *testing.T) {
 			next, done := x, true
 			for done {
 				x = next
-				next, done = run(t, n, d, x, anyMessage(r, &x))
+				next, done = run(t, n, d, x, anyCall(r, &x))
 			}
 			wantDown(t, n, x, r)
 			d, h = h.Crash(r.Intn(70))
@@ -179,6 +201,59 @@ func TestActingNodeGoesDown(t *testing.T) {
 	}
 }
 
+// TestCallsGoDown: a call that can't be made safe is ErrDown, and so are all others from then on; what came to an end before is told still (P1, P9).
+func TestCallsGoDown(t *testing.T) {
+	for steps := range 2 {
+		for _, c := range []call{promote(6), admit(0), put(0, 9), read(0)} {
+			d, h := api.NewDisk()
+			n := nodeOn(t, 1, 3, 2, d)
+			wantAnswer(t, n, decided(0, 0, 2, 6), nothing)
+			want(t, n, put(1, 5), 1, to(write(1, 1, 1, 1, 5), 2)...)
+			wantSent(t, n, receive(wrote(2, 1, 1)))
+			h.Stop(steps)
+			wantError(t, n, api.ErrDown, c, promote(6), promote(99), admit(0), admit(99), put(0, 9), put(99, 9), read(0), read(-1))
+			wantSent(t, n, retry())
+			wantNode(t, n, false, rec(0, 0, 7), rec(1, 2, 6))
+			wantDone(t, n, api.Result{Op: 1, Block: 1, Value: 5, Epoch: 1, Seq: 1})
+		}
+	}
+}
+
+// TestAnswersGoDown: an answer by which something would have to be kept that can't is nothing (P9).
+func TestAnswersGoDown(t *testing.T) {
+	ahead := []call{
+		receive(decided(0, 0, 2, 6)), admit(0), receive(copied(0, 1, 1)), receive(promise(0, 1, 1, 0, 0, 0)), receive(accepted(2, 1, 1)),
+	}
+	for steps := range 2 {
+		for number, c := range ahead {
+			d, h := api.NewDisk()
+			n := nodeOn(t, 1, 3, 2, d)
+			for _, a := range ahead[:number] {
+				a.of(t, n)
+			}
+			before := n.Records()
+			h.Stop(steps)
+			if got := c.of(t, n); len(got.packets) > 0 {
+				t.Errorf("P9: %+v on a disk that stopped: %v", c, got)
+			}
+			wantSent(t, n, retry())
+			wantNode(t, n, false, before...)
+			wantError(t, n, api.ErrDown, promote(6), put(0, 1))
+		}
+	}
+	// Retry, of a change: the ballot that it would take
+	d, h := api.NewDisk()
+	n := nodeOn(t, 1, 3, 2, d)
+	wantAnswer(t, n, decided(0, 0, 2, 6), nothing)
+	want(t, n, put(0, 9), 1, to(write(1, 1, 1, 0, 9), 2)...)
+	wantSent(t, n, promote(2), to(prepare(1, 1, 1), 0, 2)...)
+	h.Stop(1)
+	wantSent(t, n, retry())
+	wantError(t, n, api.ErrDown, promote(6), put(0, 1))
+	wantSent(t, n, receive(wrote(2, 1, 1)))
+	wantDone(t, n)
+}
+
 // TestRestartedNodeStands: behind New a node does not act, and its epoch is SEEN already (P6, P7).
 func TestRestartedNodeStands(t *testing.T) {
 	d, _ := api.NewDisk()
@@ -195,10 +270,13 @@ func TestRestartedNodeStands(t *testing.T) {
 
 // TestEveryStepEveryByte: a short life is cut off at each step, and of what was not safe each number of bytes is left (P6, P10).
 func TestEveryStepEveryByte(t *testing.T) {
-	life := []api.Msg{
-		prepare(0, 0, 4), accept(0, 0, 4, 3, 6), prepare(2, 0, 6), write(2, 0, 2, 1, 7), decided(0, 0, 2, 6), prepare(2, 1, 3), copyOf(2, 2, 1, 5, -6), decided(2, 1, 3, 6), accept(2, 2, 9, 2, 7),
+	life := []call{
+		receive(prepare(0, 0, 4)), receive(accept(0, 0, 4, 3, 6)), receive(prepare(2, 0, 6)), receive(write(2, 0, 2, 1, 7)), receive(decided(0, 0, 2, 6)),
+		put(0, 3), receive(wrote(2, 1, 1)), read(1), promote(2), retry(), receive(wrote(2, 1, 2)), receive(promise(0, 1, 6, 0, 0, 0)), receive(accepted(0, 1, 6)),
+		admit(0), receive(copied(0, 2, 1)), receive(promise(2, 2, 1, 0, 0, 0)),
+		receive(prepare(2, 2, 3)), receive(copyOf(2, 3, 1, 5, -6)), receive(decided(2, 2, 3, 2)), receive(decided(2, 2, 2, 2)), receive(accept(2, 3, 9, 2, 7)),
 	}
-	for steps := 1; steps < 25; steps++ {
+	for steps := 1; steps < 45; steps++ {
 		for keep := -1; keep < 60; keep++ {
 			d, h := api.NewDisk()
 			n := nodeOn(t, 1, 3, 2, d)
@@ -251,13 +329,13 @@ func TestForeignDisk(t *testing.T) {
 		d, _ := api.NewDisk()
 		other := nodeOn(t, 4, 5, 4, d)
 		for range 30 {
-			m := anyMessage(r, &x)
-			x.receive(m)
-			other.Receive(bytesOf(t, m))
+			c := anyCall(r, &x)
+			c.ofModel(t, &x)
+			c.of(t, other)
 		}
 		n := nodeOn(t, 0, 2, 1, d)
 		for range 30 {
-			n.Receive(bytesOf(t, anyMessage(r, &x)))
+			anyCall(r, &x).of(t, n)
 			n.Records()
 			n.Acting()
 		}

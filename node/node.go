@@ -13,6 +13,10 @@ type Node struct {
 	kept              *store.Store
 	down              bool // its disk stopped
 	acts              bool // as primary
+	change            change
+	operation         operation
+	operations        int // how many began
+	results           []api.Result
 }
 
 // New makes a node of what is on a disk.
@@ -36,6 +40,12 @@ func (n *Node) Records() []api.Record { return n.kept.Records() }
 // Acting tells whether the node acts as primary.
 func (n *Node) Acting() bool { return n.acts }
 
+// last tells the last record that is known.
+func (n *Node) last() api.Record { return n.kept.Record(n.kept.Epoch()) }
+
+// others tells the set of all nodes but this one.
+func (n *Node) others() int { return (1<<n.nodes - 1) &^ (1 << n.id) }
+
 // save makes a change of what is kept; false: the node is down.
 func (n *Node) save(m api.Msg) bool {
 	if !n.kept.Save(m) {
@@ -46,11 +56,17 @@ func (n *Node) save(m api.Msg) bool {
 }
 
 // stand ends what is going on, without a result.
-func (n *Node) stand() { n.acts = false }
+func (n *Node) stand() { n.acts, n.change, n.operation = false, change{}, operation{} }
 
-// answer makes the packet that goes to whoever sent a message.
-func (n *Node) answer(to api.Msg, m api.Msg) []api.Packet {
+// send makes the packets of a message for each node of a set.
+func (n *Node) send(set int, m api.Msg) []api.Packet {
 	m.From = n.id
-	b, _ := wire.Encode(m)
-	return []api.Packet{{To: to.From, Data: b}}
+	var out []api.Packet
+	for node := range n.nodes {
+		if set>>node&1 == 1 {
+			b, _ := wire.Encode(m)
+			out = append(out, api.Packet{To: node, Data: b})
+		}
+	}
+	return out
 }

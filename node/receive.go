@@ -15,31 +15,49 @@ func (n *Node) Receive(b []byte) []api.Packet {
 	}
 	switch m.Kind {
 	case api.Prepare, api.Accept:
-		return n.vote(m)
+		return n.reply(m, n.vote(m))
+	case api.Promise:
+		return n.promised(m)
+	case api.Accepted:
+		return n.accepted(m)
+	case api.Refused:
+		n.refused(m)
 	case api.Decided:
 		n.decided(m)
 	case api.Write, api.Copy:
-		return n.change(m)
+		return n.reply(m, n.update(m))
+	case api.Wrote:
+		n.wrote(m)
+	case api.Copied:
+		return n.copied(m)
 	}
 	return nil
 }
 
-// vote takes a Prepare or an Accept.
-func (n *Node) vote(m api.Msg) []api.Packet {
+// reply sends an answer to whoever sent a message; a message of nothing: there is none.
+func (n *Node) reply(to api.Msg, m api.Msg) []api.Packet {
+	if m.Kind == 0 {
+		return nil
+	}
+	return n.send(1<<to.From, m)
+}
+
+// vote answers a Prepare or an Accept.
+func (n *Node) vote(m api.Msg) api.Msg {
 	if m.Epoch < n.kept.Epoch() {
-		return n.answer(m, n.decision(m.Epoch))
+		return n.decision(m.Epoch)
 	}
 	was := n.kept.Vote(m.Epoch)
 	if m.Ballot < was.Promised {
-		return n.answer(m, api.Msg{Kind: api.Refused, Epoch: m.Epoch, Ballot: m.Ballot, Was: was.Promised})
+		return api.Msg{Kind: api.Refused, Epoch: m.Epoch, Ballot: m.Ballot, Was: was.Promised}
 	}
 	if was.After(m) != was && !n.save(m) {
-		return nil
+		return api.Msg{}
 	}
 	if m.Kind == api.Accept {
-		return n.answer(m, api.Msg{Kind: api.Accepted, Epoch: m.Epoch, Ballot: m.Ballot})
+		return api.Msg{Kind: api.Accepted, Epoch: m.Epoch, Ballot: m.Ballot}
 	}
-	return n.answer(m, api.Msg{Kind: api.Promise, Epoch: m.Epoch, Ballot: m.Ballot, Was: was.Accepted, Primary: was.Primary, Set: was.Set})
+	return api.Msg{Kind: api.Promise, Epoch: m.Epoch, Ballot: m.Ballot, Was: was.Accepted, Primary: was.Primary, Set: was.Set}
 }
 
 // decision tells what was decided for an epoch below the node's.
@@ -48,39 +66,38 @@ func (n *Node) decision(epoch int) api.Msg {
 	return api.Msg{Kind: api.Decided, Epoch: epoch, Primary: r.Primary, Set: r.Set}
 }
 
-// decided takes a Decided.
-func (n *Node) decided(m api.Msg) {
-	if record.Follows(n.kept.Record(n.kept.Epoch()), store.Learned(m)) {
-		n.learn(m)
+// decided takes a Decided, one of its own too; false: its record is not learned.
+func (n *Node) decided(m api.Msg) bool {
+	next := store.Learned(m)
+	if !record.Follows(n.last(), next) {
+		return false
 	}
+	acts := n.kept.TakesOver(next)
+	if !n.save(m) {
+		return false
+	}
+	n.stand()
+	n.acts = acts
+	return true
 }
 
-// learn makes the record that a Decided is about known.
-func (n *Node) learn(m api.Msg) {
-	acts := n.kept.TakesOver(store.Learned(m))
-	if n.save(m) {
-		n.stand()
-		n.acts = acts
-	}
-}
-
-// change takes a Write or a Copy.
-func (n *Node) change(m api.Msg) []api.Packet {
+// update takes a Write or a Copy.
+func (n *Node) update(m api.Msg) api.Msg {
 	point := store.Point{Seen: m.Epoch, Last: m.Seq}
 	was := n.kept.Point()
 	if !n.fits(m) || point.Seen == was.Seen && (n.acts || point.Last < was.Last) {
-		return nil
+		return api.Msg{}
 	}
 	if point.Seen < was.Seen {
 		return n.outdated(m)
 	}
 	if point != was && !n.save(m) {
-		return nil
+		return api.Msg{}
 	}
 	if point.Seen != was.Seen {
 		n.stand()
 	}
-	return n.answer(m, api.Msg{Kind: answerOf(m), Epoch: m.Epoch, Seq: m.Seq})
+	return api.Msg{Kind: confirmation(m), Epoch: m.Epoch, Seq: m.Seq}
 }
 
 // fits tells whether a Write or a Copy is one for this volume.
@@ -92,15 +109,15 @@ func (n *Node) fits(m api.Msg) bool {
 }
 
 // outdated answers a Write or a Copy of a primary that is none any more.
-func (n *Node) outdated(m api.Msg) []api.Packet {
+func (n *Node) outdated(m api.Msg) api.Msg {
 	if m.Epoch < n.kept.Epoch() {
-		return n.answer(m, n.decision(m.Epoch))
+		return n.decision(m.Epoch)
 	}
-	return nil
+	return api.Msg{}
 }
 
-// answerOf tells the kind that answers a Write or a Copy.
-func answerOf(m api.Msg) int {
+// confirmation tells the kind that answers a Write or a Copy.
+func confirmation(m api.Msg) int {
 	if m.Kind == api.Copy {
 		return api.Copied
 	}

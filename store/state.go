@@ -115,3 +115,6 @@ func (s *state) Vote(epoch int) Vote { return s.votes[term{epoch}] }
 
 // Point tells how far the volume's changes were seen.
 func (s *state) Point() Point { return s.point }
+
+// Blocks tells the blocks, as many as a volume may have.
+func (s *state) Blocks() [api.MaxBlocks]int { return s.blocks }

@@ -31,7 +31,8 @@ func copyOf(epoch, seq int, values ...int) api.Msg {
 // wantBlocks looks at what is on a node's disk.
 func wantBlocks(t *testing.T, d *api.Disk, values ...int) {
 	t.Helper()
-	if got := store.Open(1, 3, d).Blocks()[:len(values)]; !slices.Equal(got, values) {
+	got := store.Open(1, 3, d).Blocks()
+	if !slices.Equal(got[:len(values)], values) {
 		t.Fatalf("P8: the blocks are %v, want %v", got, values)
 	}
 }
