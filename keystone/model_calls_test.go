@@ -196,14 +196,21 @@ func (m *model) operate(block int, value *int) (int, []sent, api.Errno) {
 	return m.begun, out, 0
 }
 
-// missing are the nodes of the set from which Wrote has not come.
-func (m *model) missing() []int {
-	return slices.DeleteFunc(m.others(m.lastRecord().Set), func(node int) bool { return slices.Contains(m.operation.came, node) })
+// missing are the others of the record's set from which Wrote has not come, whether there are such nodes or not.
+func (m *model) missing() (out []int) {
+	for node := range 5 {
+		if node != m.id && has(m.lastRecord().Set, node) && !slices.Contains(m.operation.came, node) {
+			out = append(out, node)
+		}
+	}
+	return out
 }
 
+// writes goes to those of the missing ones that are there.
 func (m *model) writes() []sent {
 	r := m.operation.result
-	return m.toAll(m.missing(), api.Msg{Kind: 7, Epoch: r.Epoch, Seq: r.Seq, Block: r.Block, Value: r.Value})
+	there := slices.DeleteFunc(m.missing(), func(node int) bool { return node >= m.nodes })
+	return m.toAll(there, api.Msg{Kind: 7, Epoch: r.Epoch, Seq: r.Seq, Block: r.Block, Value: r.Value})
 }
 
 func (m *model) finish() {

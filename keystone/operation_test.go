@@ -33,6 +33,43 @@ func TestWriteAndRead(t *testing.T) {
 	wantDone(t, n)
 }
 
+// TestOperationOfASetPastTheNodes: a node of the record's set that the cell has not never answers, so the operation is not done; packets go to nodes that are there (P13, P14).
+func TestOperationOfASetPastTheNodes(t *testing.T) {
+	for _, c := range []struct {
+		sets []int
+		to   []int
+	}{
+		{[]int{2, 18}, nil},
+		{[]int{2, 10}, nil},
+		{[]int{2, 18, 26}, nil},
+		{[]int{3, 19}, []int{0}},
+		{[]int{7, 15, 31}, []int{0, 2}},
+		{[]int{6, 22, 18}, nil}, // its others of the cell are out again
+	} {
+		for _, begin := range []call{put(0, 9), read(0)} {
+			n := newNode(t, 1, 3, 1)
+			for epoch, set := range c.sets {
+				wantAnswer(t, n, decided(0, epoch, 2, set), nothing)
+			}
+			epoch, value := len(c.sets), begin.b
+			want(t, n, begin, 1, to(write(1, epoch, 1, 0, value), c.to...)...)
+			for from := range 5 {
+				wantDone(t, n)
+				wantError(t, n, api.ErrBusy, put(0, 10), read(0))
+				wantSent(t, n, receive(wrote(from, epoch, 1)))
+			}
+			wantDone(t, n)
+			wantError(t, n, api.ErrBusy, put(0, 10), read(0))
+			wantSent(t, n, retry(), to(prepare(1, epoch, 0), 0, 2)...)
+			// with a set of nodes that are there it goes on
+			wantAnswer(t, n, decided(0, epoch, 2, 2), nothing)
+			wantDone(t, n)
+			want(t, n, read(0), 2)
+			wantDone(t, n, api.Result{Op: 2, Value: value, Epoch: epoch + 1, Seq: 1})
+		}
+	}
+}
+
 // TestOperateAlone: without others in the set it is done at once (P13).
 func TestOperateAlone(t *testing.T) {
 	n := promoted(t, 1, 3, 4, 2)

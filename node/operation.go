@@ -58,9 +58,9 @@ func (n *Node) operate(block int, value int) (int, []api.Packet, api.Errno) {
 // rewrite sends the operation's Write to all from which Wrote has not come.
 func (n *Node) rewrite() []api.Packet { return n.send(n.missing(), n.operation.write) }
 
-// missing tells the others of the set from which Wrote has not come.
+// missing tells the others of the record's set from which Wrote has not come. One past the number of nodes is among them as long as the operation goes on: nothing can be sent to it, and it never answers.
 func (n *Node) missing() int {
-	set := n.last().Set & n.others()
+	set := n.last().Set &^ (1 << n.id)
 	m := n.operation.write
 	for node := range n.nodes {
 		if n.operation.answered.has(api.Msg{Kind: api.Wrote, From: node, Epoch: m.Epoch, Seq: m.Seq}) {
