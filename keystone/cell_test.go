@@ -14,15 +14,79 @@ import (
 type cell struct {
 	t       *testing.T
 	r       *rand.Rand
+	weather weather
 	blocks  int
 	nodes   []*keystone.Node
 	disks   []*api.Disk
 	hands   []*api.Hand
 	way     []api.Packet
+	apart   int // a set of nodes: what goes from these to the others, or back, waits
 	written int // how many values were written: each is another one
 	begun   []map[int]begin
 	done    []end
 	history []api.Record
+}
+
+// weather is how often what happens in a cell: in some there are many votes and few writes, in some all nodes crash and crash.
+type weather struct {
+	steps       int
+	odds        [happenings]int
+	lost, again int // of a hundred packets
+	newest      int // the newest of so many packets comes first
+	unheard     int // a kind that is lost most often
+}
+
+// What happens.
+const (
+	carries = iota
+	promotes
+	admits
+	writes
+	reads
+	retries
+	divides
+	stops
+	crashes
+	happenings
+)
+
+// anyWeather: in one cell of three nodes are promoted again and again, in one there is much to write, in one all happens alike.
+func anyWeather(r *rand.Rand) weather {
+	w := weather{steps: 1000, lost: r.Intn(20), again: r.Intn(60), newest: 1 + r.Intn(6)}
+	w.odds = [happenings]int{promotes: 10, admits: 5, writes: 10, reads: 10, retries: 4, divides: r.Intn(2), stops: r.Intn(4), crashes: 1 + r.Intn(3)}
+	switch r.Intn(3) {
+	case 0:
+		w.steps = 300
+		w.odds[admits], w.odds[writes], w.odds[reads], w.odds[retries] = 0, 0, 0, 10
+		w.unheard = r.Intn(2) * 6
+	case 1:
+		w.steps = 1500
+		w.odds[promotes], w.odds[writes], w.odds[reads] = 3, 20, 20
+	default:
+		w.unheard = r.Intn(2) * (1 + r.Intn(10))
+	}
+	all := 0
+	for _, n := range w.odds {
+		all += n
+	}
+	w.odds[carries] = all * (2 + r.Intn(8))
+	return w
+}
+
+// any tells what happens next.
+func (w weather) any(r *rand.Rand) int {
+	all := 0
+	for _, n := range w.odds {
+		all += n
+	}
+	k := r.Intn(all)
+	for i, n := range w.odds {
+		if k < n {
+			return i
+		}
+		k -= n
+	}
+	return carries
 }
 
 // begin is a call that began: how many results were there, and what was written, if anything was.
@@ -38,16 +102,23 @@ type end struct {
 	begin
 }
 
-func newCell(t *testing.T, seed int64) *cell {
+func newCell(t *testing.T, nodes, blocks int) *cell {
 	t.Helper()
-	r := rand.New(rand.NewSource(seed))
-	c := &cell{t: t, r: r, blocks: 1 + r.Intn(2)}
-	nodes := 2 + r.Intn(4)
+	c := &cell{t: t, blocks: blocks}
 	for id := range nodes {
 		d, h := api.NewDisk()
 		c.disks, c.hands = append(c.disks, d), append(c.hands, h)
-		c.nodes, c.begun = append(c.nodes, nodeOn(t, id, nodes, c.blocks, d)), append(c.begun, map[int]begin{})
+		c.nodes, c.begun = append(c.nodes, nodeOn(t, id, nodes, blocks, d)), append(c.begun, map[int]begin{})
 	}
+	return c
+}
+
+// anyCell is one in which anything may happen.
+func anyCell(t *testing.T, seed int64) *cell {
+	t.Helper()
+	r := rand.New(rand.NewSource(seed))
+	c := newCell(t, 2+r.Intn(4), 1+r.Intn(2))
+	c.r, c.weather = r, anyWeather(r)
 	return c
 }
 
@@ -58,52 +129,79 @@ func (c *cell) send(l []api.Packet) { c.way = append(c.way, l...) }
 func (c *cell) step() {
 	id := c.r.Intn(len(c.nodes))
 	n := c.nodes[id]
-	switch k := c.r.Intn(1000); {
-	case k < 750:
+	switch c.weather.any(c.r) {
+	case carries:
 		c.carry()
-	case k < 760:
-		l, _ := n.Promote(c.r.Intn(32)&(1<<len(c.nodes)-1) | 1<<id)
+	case promotes:
+		l, _ := n.Promote(c.anySet(id))
 		c.send(l)
-	case k < 800:
+	case admits:
 		l, _ := n.Admit(c.r.Intn(len(c.nodes)))
 		c.send(l)
-	case k < 880:
+	case writes:
 		c.written++
 		number, l, e := n.Write(c.r.Intn(c.blocks), c.written)
 		c.begin(id, number, begin{len(c.done), true, c.written}, l, e)
-	case k < 960:
+	case reads:
 		number, l, e := n.Read(c.r.Intn(c.blocks))
 		c.begin(id, number, begin{results: len(c.done)}, l, e)
-	case k < 990:
+	case retries:
 		c.send(n.Retry())
-	case k < 993:
-		c.hands[id].Stop(c.r.Intn(20))
-	default:
-		c.restart(id)
+	case divides:
+		c.apart = c.r.Intn(1 << len(c.nodes))
+	case stops:
+		c.hands[id].Stop(c.r.Intn(6))
+	case crashes:
+		c.restart(c.anyStopped(id), c.r.Intn(80))
 	}
 	c.look(id)
 }
 
-// carry takes a packet that is on its way: it comes, and may come again; or it is lost.
+// anyStopped is a node whose disk is stopped; if there is none, this one.
+func (c *cell) anyStopped(id int) int {
+	for i := range c.disks {
+		if other := (id + i) % len(c.disks); c.disks[other].Stopped() {
+			return other
+		}
+	}
+	return id
+}
+
+// anySet is the set of a node's last record, now and then without some others.
+func (c *cell) anySet(id int) int {
+	l := c.nodes[id].Records()
+	set := l[len(l)-1].Set
+	if c.r.Intn(4) == 0 {
+		set &= c.r.Intn(32) | 1<<id
+	}
+	return set
+}
+
+// carry takes a packet that is on its way: it comes, and may come again; or it is lost, or waits.
 func (c *cell) carry() {
 	if len(c.way) == 0 {
 		return
 	}
-	// what is newest comes most often: so something goes on, though old packets come all the time
-	i := max(c.r.Intn(len(c.way)), c.r.Intn(len(c.way)))
+	i := 0
+	for range c.weather.newest {
+		i = max(i, c.r.Intn(len(c.way)))
+	}
 	p := c.way[i]
-	if c.r.Intn(8) > 0 || len(c.way) > 60 {
+	kind, from := int(p.Data[0]), int(p.Data[1])
+	waits := has(c.apart, from) != has(c.apart, p.To)
+	if len(c.way) > 80 || !waits && c.r.Intn(100) >= c.weather.again {
 		c.way = slices.Delete(c.way, i, i+1)
 	}
-	if c.r.Intn(10) > 0 {
+	lost := c.r.Intn(100) < c.weather.lost || kind == c.weather.unheard && c.r.Intn(8) > 0
+	if !waits && !lost {
 		c.send(c.nodes[p.To].Receive(p.Data))
 		c.look(p.To)
 	}
 }
 
-// restart crashes a node and makes it anew.
-func (c *cell) restart(id int) {
-	c.disks[id], c.hands[id] = c.hands[id].Crash(c.r.Intn(80))
+// restart crashes a node and makes it anew, of what is left.
+func (c *cell) restart(id, keep int) {
+	c.disks[id], c.hands[id] = c.hands[id].Crash(keep)
 	c.nodes[id], c.begun[id] = nodeOn(c.t, id, len(c.nodes), c.blocks, c.disks[id]), map[int]begin{}
 }
 
@@ -180,10 +278,14 @@ func (c *cell) oneVolume() {
 
 // calm lets all nodes run, and all messages come, one behind another.
 func (c *cell) calm() {
-	for id := range c.nodes {
-		c.restart(id)
+	for id, d := range c.disks {
+		c.hands[id].Stop(-1)
+		if d.Stopped() {
+			c.restart(id, 0)
+		}
 	}
-	for range 40 {
+	// with each Retry a node comes to know a record more at least; with two more what goes on comes to its end
+	for range len(c.history) + 2 {
 		for _, n := range c.nodes {
 			c.send(n.Retry())
 		}
@@ -258,19 +360,30 @@ func (c *cell) writeAndRead(id int) {
 	}
 }
 
-// TestCells: whatever comes, there is one history and one volume, and in the end it goes on (P11 to P14, and P15 to P17, which follow of them).
+// TestCells: whatever comes, there is one history and one volume, and in the end it goes on (P15 to P17).
 func TestCells(t *testing.T) {
 	records, results := 0, 0
-	for seed := range int64(300) {
-		c := newCell(t, seed)
-		for range 1500 {
-			c.step()
-		}
+	for seed := range int64(4000) {
+		c := runCell(t, seed)
 		records, results = records+len(c.history), results+len(c.done)
-		c.inTheEnd()
-		c.oneVolume()
 	}
-	if records < 1000 || results < 2000 {
+	if records < 20000 || results < 20000 {
 		t.Errorf("in all cells there were but %d records and %d results", records, results)
 	}
+}
+
+func runCell(t *testing.T, seed int64) *cell {
+	t.Helper()
+	defer func() {
+		if t.Failed() {
+			t.Logf("that is the cell of seed %d", seed)
+		}
+	}()
+	c := anyCell(t, seed)
+	for range c.weather.steps {
+		c.step()
+	}
+	c.inTheEnd()
+	c.oneVolume()
+	return c
 }

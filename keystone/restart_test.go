@@ -268,34 +268,7 @@ func TestRestartedNodeStands(t *testing.T) {
 	wantNode(t, n, true, rec(0, 0, 7), rec(1, 2, 7), rec(2, 2, 2))
 }
 
-// TestEveryStepEveryByte: a short life is cut off at each step, and of what was not safe each number of bytes is left (P6, P10).
-func TestEveryStepEveryByte(t *testing.T) {
-	life := []call{
-		receive(prepare(0, 0, 4)), receive(accept(0, 0, 4, 3, 6)), receive(prepare(2, 0, 6)), receive(write(2, 0, 2, 1, 7)), receive(decided(0, 0, 2, 6)),
-		put(0, 3), receive(wrote(2, 1, 1)), read(1), promote(2), retry(), receive(wrote(2, 1, 2)), receive(promise(0, 1, 6, 0, 0, 0)), receive(accepted(0, 1, 6)),
-		admit(0), receive(copied(0, 2, 1)), receive(promise(2, 2, 1, 0, 0, 0)),
-		receive(prepare(2, 2, 3)), receive(copyOf(2, 3, 1, 5, -6)), receive(decided(2, 2, 3, 2)), receive(decided(2, 2, 2, 2)), receive(accept(2, 3, 9, 2, 7)),
-	}
-	for steps := 1; steps < 45; steps++ {
-		for keep := -1; keep < 60; keep++ {
-			d, h := api.NewDisk()
-			n := nodeOn(t, 1, 3, 2, d)
-			h.Stop(steps)
-			x, next, done := newModel(1, 3, 2), newModel(1, 3, 2), true
-			for i := 0; done && i < len(life); i++ {
-				x = next
-				next, done = run(t, n, d, x, life[i])
-			}
-			if done {
-				x = next
-			}
-			_, h = h.Crash(keep)
-			left(t, h, x, next)
-		}
-	}
-}
-
-// TestNewWhileStopping: New makes a node or tells that the disk is stopped, however many steps are left (P6).
+// TestNewWhileStopping: New makes a node or tells that the disk is stopped, however many steps are left, and whatever a crash left (P6).
 func TestNewWhileStopping(t *testing.T) {
 	x := newModel(1, 3, 2)
 	d, first := api.NewDisk()
@@ -304,18 +277,22 @@ func TestNewWhileStopping(t *testing.T) {
 		x.receive(m)
 		n.Receive(bytesOf(t, m))
 	}
+	first.Stop(1)
+	n.Receive(bytesOf(t, prepare(0, 1, 9)))
 	for steps := range 12 {
-		d, h := first.Crash(0)
-		h.Stop(steps)
-		n, e := keystone.New(1, 3, 2, d)
-		if (n == nil) != (e == api.ErrDown) || e != api.OK && e != api.ErrDown || steps == 0 && e == api.OK {
-			t.Errorf("P6: New with %d steps left = %v, %d", steps, n, e)
-		}
-		if n != nil {
-			wantNode(t, n, false, x.records...)
-		}
-		if _, h = h.Crash(0); !keeps(t, h, x) {
-			t.Errorf("P10: New with %d steps left took away what was kept", steps)
+		for keep := range 20 {
+			d, h := first.Crash(keep)
+			h.Stop(steps)
+			n, e := keystone.New(1, 3, 2, d)
+			if (n == nil) != (e == api.ErrDown) || e != api.OK && e != api.ErrDown || steps == 0 && e == api.OK {
+				t.Errorf("P6: New with %d steps left = %v, %d", steps, n, e)
+			}
+			if n != nil {
+				wantNode(t, n, false, x.records...)
+			}
+			if _, h = h.Crash(0); !keeps(t, h, x) {
+				t.Errorf("P10: New with %d steps left took away what was kept", steps)
+			}
 		}
 	}
 }

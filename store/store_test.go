@@ -2,6 +2,7 @@ package store_test
 
 import (
 	"slices"
+	"strings"
 	"testing"
 
 	"keystone/api"
@@ -93,6 +94,47 @@ func TestJournalStaysShort(t *testing.T) {
 		if got, want := s.Vote(epoch), (store.Vote{Promised: 2995 + epoch}); got != want {
 			t.Errorf("P6: for epoch %d it voted %+v, want %+v", epoch, got, want)
 		}
+	}
+}
+
+// TestVotesThatAreOver: of epochs that were decided no votes are kept: nobody asks for them any more.
+func TestVotesThatAreOver(t *testing.T) {
+	d, _ := api.NewDisk()
+	n, _ := node.New(1, 3, 1, d)
+	const epochs = 400
+	for epoch := range epochs {
+		receive(t, n, api.Msg{Kind: api.Accept, Epoch: epoch, Ballot: 5, Primary: 1, Set: 7})
+		receive(t, n, api.Msg{Kind: api.Decided, Epoch: epoch, Primary: 1, Set: 7})
+	}
+	if got := len(store.Open(1, 3, d).Records()); got != epochs+1 {
+		t.Errorf("P7: it knows %d records, want %d", got, epochs+1)
+	}
+	// as many lines again as are needed, and a few
+	if lines := store.Open(1, 3, d).Lines(); lines > 2*epochs+100 {
+		t.Errorf("the journal has %d lines for %d records", lines, epochs)
+	}
+	for epoch := range epochs {
+		if got := store.Open(1, 3, d).Vote(epoch); got != (store.Vote{}) {
+			t.Fatalf("for epoch %d, which is over, %+v is kept", epoch, got)
+		}
+	}
+}
+
+// TestSeldomRewritten: by far the most changes are one more line of the journal.
+func TestSeldomRewritten(t *testing.T) {
+	d, _ := api.NewDisk()
+	n, _ := node.New(1, 3, 1, d)
+	rewritten, before := 0, ""
+	for i := range 2000 {
+		receive(t, n, write(0, i+1, 0, i))
+		now := d.Read("journal")
+		if !strings.HasPrefix(now, before) {
+			rewritten++
+		}
+		before = now
+	}
+	if rewritten < 1 || rewritten > 2000/50 {
+		t.Errorf("with 2000 changes the journal was written anew %d times", rewritten)
 	}
 }
 
